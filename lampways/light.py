@@ -27,6 +27,24 @@ def lit_from(rows, columns, pillars, cell):
     return lit
 
 
+def lit_by(rows, columns, pillars, lamps):
+    """The free cells that lamps on free cells light together, rising."""
+    lit = {}
+    for lamp in lamps:
+        for cell in lit_from(rows, columns, pillars, lamp):
+            lit[cell] = True
+    return sorted(lit.keys())
+
+
+def is_lit_by_another(rows, columns, pillars, lamps):
+    """Whether one of the lamps, each on a free cell of its own, is lit by another one."""
+    for lamp in lamps:
+        light = lit_from(rows, columns, pillars, lamp)
+        if any([other != lamp and other in light for other in lamps]):
+            return True
+    return False
+
+
 def bits_of(cells):
     """The cells as one whole number, a bit for each; no cell is told twice."""
     return sum([1 << cell for cell in cells])

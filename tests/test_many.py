@@ -1,10 +1,6 @@
 import unittest
 
-from told import MANY, begins, gone, last, mark, pillar, shown, told
-
-
-def pillars_everywhere(rows, columns, number):
-    return [begins(rows, columns)] + [pillar(cell, number) for cell in range(rows * columns)]
+from told import MANY, begins, everywhere, gone, last, mark, pillar, shown, told
 
 
 class Many(unittest.TestCase):
@@ -15,14 +11,14 @@ class Many(unittest.TestCase):
         for rows, columns, count in [(1, 4, 4), (4, 1, 4), (2, 3, 6), (3, 2, 6), (2, 4, 12), (3, 4, 24), (4, 3, 24)]:
             self.assertEqual(last(begins(rows, columns), MANY), [count, 2, count, count])
 
-    def test_pillars_everywhere(self):
+    def test_everywhere(self):
         # No cell is free: the one setting has no lamps, and is a way where each number is 0.
         for rows, columns in [(1, 1), (2, 3), (4, 4)]:
-            self.assertEqual(last(*pillars_everywhere(rows, columns, 9), MANY), [1, 2, 1, 1])
-            self.assertEqual(last(*pillars_everywhere(rows, columns, 0), MANY), [1, 2, 1, 1])
+            self.assertEqual(last(*everywhere(rows, columns, 9), MANY), [1, 2, 1, 1])
+            self.assertEqual(last(*everywhere(rows, columns, 0), MANY), [1, 2, 1, 1])
             for number in [1, 2, 3, 4]:
-                self.assertEqual(last(*pillars_everywhere(rows, columns, number), MANY), [0, 2, 0, 1])
-                calls = pillars_everywhere(rows, columns, 0) + [pillar(rows * columns - 1, number)]
+                self.assertEqual(last(*everywhere(rows, columns, number), MANY), [0, 2, 0, 1])
+                calls = everywhere(rows, columns, 0) + [pillar(rows * columns - 1, number)]
                 self.assertEqual(last(*calls, MANY), [0, 2, 0, 1])
 
     def test_light_ends_at_a_pillar_whatever_its_number(self):

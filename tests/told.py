@@ -3,6 +3,10 @@
 from lampways.hall import answers
 
 MANY = [4]
+SURE = [6]
+FEWEST = [8]
+LAMPS = [9]
+STATE = [11]
 
 
 def begins(many_rows, many_columns):
@@ -23,6 +27,19 @@ def mark(cell, how):
 
 def show(k):
     return [5, k]
+
+
+def try_out(*cells):
+    return [7, len(cells), *cells]
+
+
+def lit(*cells):
+    return [10, len(cells), *cells]
+
+
+def everywhere(rows, columns, number):
+    """The calls that make a hall with a pillar with that number on each cell."""
+    return [begins(rows, columns)] + [pillar(cell, number) for cell in range(rows * columns)]
 
 
 def joined(calls):
